@@ -1,0 +1,1 @@
+"""Platepiles: plates in lines, kept on two piles."""
