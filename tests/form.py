@@ -1,4 +1,4 @@
-"""Looks for code that leaves the part of Python the package keeps to. It reads the rules that a walk can see."""
+"""Looks for code that leaves the part of Python the package keeps to. It knows some of the rules, not all."""
 
 import ast
 import builtins
