@@ -18,6 +18,11 @@ LEFT_OUT = (
     ast.AsyncFunctionDef, ast.AsyncWith, ast.Await, ast.Div, ast.SetComp, ast.DictComp, ast.GeneratorExp,
     ast.NamedExpr, ast.Starred, ast.MatMult, ast.Import,
 )
+PYTHONS_METHODS = set(
+    "append clear copy count endswith extend find get index insert isalnum isalpha isdigit islower isspace isupper "
+    "items join keys ljust lower lstrip partition pop remove replace reverse rfind rjust rpartition rsplit rstrip "
+    "setdefault split splitlines startswith strip update upper values zfill bit_length".split()
+)
 SPECIAL_METHODS = ("__init__", "__eq__", "__repr__", "__str__", "__len__")
 
 
@@ -27,6 +32,17 @@ def faults(source):
     for node in ast.walk(tree):
         found.extend(node_faults(node))
     return found
+
+
+def package_faults(sources):
+    """What shows only over all files together: how methods and objects' values are called."""
+    nodes = [node for source in sources for node in ast.walk(ast.parse(source))]
+    classes = [node for node in nodes if isinstance(node, ast.ClassDef)]
+    methods = {part.name for node in classes for part in node.body if isinstance(part, ast.FunctionDef)}
+    stored = {node.attr for node in nodes if isinstance(node, ast.Attribute) and isinstance(node.ctx, ast.Store)}
+    called = {node.func.attr for node in nodes if isinstance(node, ast.Call) and isinstance(node.func, ast.Attribute)}
+    found = [f"{name} is a method and a value" for name in sorted(methods & stored)]
+    return found + [f"method {name} not allowed" for name in sorted(called - methods - PYTHONS_METHODS)]
 
 
 def text_faults(source):
@@ -59,6 +75,14 @@ def node_faults(node):
         found.append(f"{at}: function too long")
     if isinstance(node, (ast.FunctionDef, ast.ClassDef)) and node.decorator_list:
         found.append(f"{at}: decorator")
+    if isinstance(node, (ast.For, ast.While)) and node.orelse:
+        found.append(f"{at}: else behind a loop")
+    if isinstance(node, ast.Try) and node.finalbody:
+        found.append(f"{at}: finally not allowed")
+    if isinstance(node, ast.Assign) and (len(node.targets) > 1 or isinstance(node.targets[0], (ast.Tuple, ast.List))):
+        found.append(f"{at}: more than one target")
+    if isinstance(node, ast.Compare) and not all(is_good_is(pair) for pair in zip(node.ops, node.comparators)):
+        found.append(f"{at}: is not beside None, True or False")
     for name in names_in(node):
         if name.startswith("_") and name not in SPECIAL_METHODS:
             found.append(f"{at}: name {name} not allowed")
@@ -70,6 +94,13 @@ def is_own_import(node):
         return [name.name for name in node.names] == ["annotations"]
     own = node.level == 0 and (node.module or "").startswith("platepiles.")
     return own and all(name.name != "*" for name in node.names)
+
+
+def is_good_is(pair):
+    sign, value = pair
+    if not isinstance(sign, (ast.Is, ast.IsNot)):
+        return True
+    return isinstance(value, ast.Constant) and (value.value is None or isinstance(value.value, bool))
 
 
 def names_in(node):

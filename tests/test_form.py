@@ -2,7 +2,7 @@ import pathlib
 import re
 import unittest
 
-from tests.form import faults
+from tests.form import faults, package_faults
 
 PACKAGE = pathlib.Path(__file__).resolve().parent.parent / "platepiles"
 
@@ -24,10 +24,16 @@ class PackageFormTest(unittest.TestCase):
             with self.subTest(path=path.name):
                 self.assertEqual(faults(path.read_bytes().decode("utf-8")), [])
 
+    def test_methods_and_values_over_all_files(self):
+        self.assertEqual(package_faults([path.read_text("utf-8") for path in self.files()]), [])
+
 
 class FaultsTest(unittest.TestCase):
     def test_good_code_has_none(self):
         self.assertEqual(faults('"""Words."""\nfrom platepiles.errors import NoWidth\n\n\nnumber = 1\n'), [])
+        self.assertEqual(faults("x = y is None\nz = y is not True\n"), [])
+        own = "class A:\n    def m(self):\n        self.x = 1\n"
+        self.assertEqual(package_faults([own, "a.m()\nb.append(1)\n"]), [])
 
     def test_each_kind_is_found(self):
         wrong = (
@@ -36,8 +42,14 @@ class FaultsTest(unittest.TestCase):
             "x = {a for a in b}", "x = list(a for a in b)", "with a:\n    pass", "del x", "assert x", "x = b''",
             "def f(*rest):\n    return max(*rest)", "def _f():\n    pass", "self._x = 1", "@a\ndef f():\n    pass",
             "# the type of it", "# \u00e9", "if x:\n\ty = 1", "# " + "x" * 120,
-            "def f():\n" + "    x = 1\n" * 40, "x = 1\n" * 401,
+            "def f():\n" + "    x = 1\n" * 40, "x = 1\n" * 401, "x = y = 1", "x, y = 1, 2", "z = x is y",
+            "z = x is not 0", "for x in y:\n    pass\nelse:\n    pass", "try:\n    pass\nfinally:\n    pass",
         )
         for source in wrong:
             with self.subTest(source=source[:40]):
                 self.assertNotEqual(faults(source), [])
+
+    def test_each_kind_over_several_files_is_found(self):
+        own = "class A:\n    def m(self):\n        pass\n"
+        self.assertNotEqual(package_faults([own, "a.m = 1\n"]), [])
+        self.assertNotEqual(package_faults([own, "a.sort()\n"]), [])

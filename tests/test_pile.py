@@ -2,8 +2,7 @@ import itertools
 import unittest
 
 from platepiles.pile import Pile, move_plates, pile_of
-
-SIXTY = 10 ** 60 - 1
+from tests.days import SIXTY
 
 
 def lift_all(pile):
